@@ -1,0 +1,1 @@
+"""A cruise ship and its voyage, hour by hour."""
