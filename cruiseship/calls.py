@@ -1,11 +1,13 @@
 """The calls by their numbers."""
 
+from cruiseship.ahead_calls import cr_ahead, cr_lasts, cr_least, cr_short
 from cruiseship.bounds import outside
 from cruiseship.hour_calls import cr_hours
 from cruiseship.people_calls import cr_board, cr_drill, cr_gate, cr_in, cr_leave, cr_scan
 from cruiseship.plan_calls import cr_cabin, cr_good, cr_leg
 from cruiseship.supply_calls import cr_ashore, cr_bunker, cr_load, cr_set
-from cruiseship.tell_calls import cr_ready, cr_where
+from cruiseship.tell_calls import cr_aboard, cr_cabins, cr_missing, cr_party, cr_ready, cr_search
+from cruiseship.tell_calls import cr_stock, cr_sums, cr_water, cr_where, cr_who
 
 CR_START = 0
 CR_LEG = 1
@@ -23,9 +25,26 @@ CR_DRILL = 12
 CR_IN = 13
 CR_HOURS = 14
 CR_WHERE = 15
+CR_READY = 16
+CR_ABOARD = 17
+CR_MISSING = 18
+CR_SEARCH = 19
+CR_WHO = 20
+CR_PARTY = 21
+CR_CABINS = 22
+CR_LEAST = 23
+CR_SHORT = 24
+CR_STOCK = 25
+CR_WATER = 26
+CR_LASTS = 27
+CR_AHEAD = 28
+CR_BACK = 30
+CR_AGAIN = 31
+CR_STATE = 32
 
 # How many numbers stand behind each call's own, by the calls' numbers from 0 on.
-NUMBERS_BEHIND = (8, 3, 2, 5, 4, 1, 1, 1, 2, 1, 2, 3, 0, 1, 1, 0, 0)
+NUMBERS_BEHIND = (8, 3, 2, 5, 4, 1, 1, 1, 2, 1, 2, 3, 0, 1, 1, 0, 0,
+                  0, 0, 0, 1, 1, 0, 1, 0, 1, 0, 0, 1, 0, 0, 0, 0)
 
 
 def is_change(call):
@@ -62,7 +81,34 @@ def change(vessel, call, numbers):
     return cr_hours(vessel, numbers[0])
 
 
-def tell(vessel, call):
+# None of these changes the ship.
+def tell(vessel, call, numbers):
     if call == CR_WHERE:
         return cr_where(vessel)
-    return cr_ready(vessel)
+    if call == CR_READY:
+        return cr_ready(vessel)
+    if call == CR_ABOARD:
+        return cr_aboard(vessel)
+    if call == CR_MISSING:
+        return cr_missing(vessel)
+    if call == CR_SEARCH:
+        return cr_search(vessel)
+    if call == CR_WHO:
+        return cr_who(vessel, numbers[0])
+    if call == CR_PARTY:
+        return cr_party(vessel, numbers[0])
+    if call == CR_CABINS:
+        return cr_cabins(vessel)
+    if call == CR_LEAST:
+        return cr_least(vessel, numbers[0])
+    if call == CR_SHORT:
+        return cr_short(vessel)
+    if call == CR_STOCK:
+        return cr_stock(vessel, numbers[0])
+    if call == CR_WATER:
+        return cr_water(vessel)
+    if call == CR_LASTS:
+        return cr_lasts(vessel)
+    if call == CR_AHEAD:
+        return cr_ahead(vessel, numbers[0])
+    return cr_sums(vessel)

@@ -64,12 +64,12 @@ def count_aboard(people):
     return people.standing.count(ABOARD)
 
 
-def count_missing(people):
-    return people.standing.count(ASHORE)
+def those_who_are(people, standing):
+    return [person for person, now in enumerate(people.standing) if now == standing]
 
 
 def may_leave(people):
-    return count_missing(people) == 0 and people.gate == 0
+    return ASHORE not in people.standing and people.gate == 0
 
 
 def person_is_there(people, person):
@@ -93,6 +93,10 @@ def first_of_party(people, person):
 def is_taken(people, cabin):
     holders = [number for number, party in enumerate(people.parties) if party.cabin == cabin]
     return any([party_is_there(people, number) for number in holders])
+
+
+def free_cabins(people):
+    return [number for number in range(len(people.cabins)) if not is_taken(people, number)]
 
 
 def does(people, number, many, rank, flat):
@@ -132,6 +136,5 @@ def begin_drill(people):
     people.minutes = [NOT_IN for person in people.persons]
 
 
-def count_searched_for(people):
-    pairs = list(zip(people.standing, people.minutes))
-    return pairs.count((ABOARD, NOT_IN))
+def searched_for(people):
+    return [person for person in those_who_are(people, ABOARD) if people.minutes[person] == NOT_IN]

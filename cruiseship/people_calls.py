@@ -2,8 +2,8 @@
 
 from cruiseship.bounds import outside
 from cruiseship.people import ABOARD, ASHORE, GONE, NO_CABIN
-from cruiseship.people import add_party, begin_drill, best_cabin, count_aboard, count_searched_for
-from cruiseship.people import first_of_party, members, party_is_there, person_is_there
+from cruiseship.people import add_party, begin_drill, best_cabin, count_aboard
+from cruiseship.people import first_of_party, members, party_is_there, person_is_there, searched_for
 from cruiseship.refusals import NO_DRILL, NO_ROOM, NONE_THERE, NOT_AS_TOLD, NOT_FITTING, NOT_NOW
 from cruiseship.refusals import SO_ALREADY, TOO_MANY
 from cruiseship.way import is_at_sea
@@ -107,4 +107,4 @@ def cr_in(vessel, p):
     if people.minutes[p] >= minute:
         return [SO_ALREADY]
     people.minutes[p] = minute
-    return [count_searched_for(people)]
+    return [len(searched_for(people))]

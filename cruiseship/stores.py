@@ -53,6 +53,14 @@ def loaded_in_all(stores):
     return sum([good.loaded for good in stores.goods])
 
 
+def good_is_there(stores, number):
+    return number < len(stores.goods)
+
+
+def good_to_if_loaded(good, day):
+    return day + good.life
+
+
 def has_lot(good, good_to):
     return any([lot.good_to == good_to for lot in good.lots])
 
@@ -82,6 +90,15 @@ def eat(good, wanted):
 def spoil(good, day):
     good.spoilt += sum([lot.units for lot in good.lots if lot.good_to < day])
     good.lots = [lot for lot in good.lots if lot.good_to >= day]
+
+
+# What would lack at the ends of the days from one up to another, without that other.
+def lacks_up_to(good, aboard, day, other_day):
+    ahead = good.twin()
+    for each in range(day, other_day):
+        eat(ahead, good.per * aboard)
+        spoil(ahead, each + 1)
+    return ahead.lacked - good.lacked
 
 
 def end_day(stores, aboard, new_day):

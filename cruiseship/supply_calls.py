@@ -2,7 +2,8 @@
 
 from cruiseship.refusals import NO_ROOM, NONE_THERE, NOT_AS_TOLD, NOT_NOW
 from cruiseship.refusals import SO_ALREADY, TOO_LITTLE, TOO_MANY
-from cruiseship.stores import add_units, has_lot, loaded_in_all, units_in_all, units_of
+from cruiseship.stores import add_units, good_is_there, good_to_if_loaded, has_lot
+from cruiseship.stores import loaded_in_all, units_in_all, units_of
 from cruiseship.tanks import fresh_room, take_in
 from cruiseship.way import is_at_sea, today
 
@@ -20,7 +21,7 @@ def is_too_much(stores, good, n):
 
 def cr_load(vessel, g, n):
     stores = vessel.stores
-    if g >= len(stores.goods):
+    if not good_is_there(stores, g):
         return [NONE_THERE]
     if n == 0:
         return [NOT_AS_TOLD]
@@ -29,7 +30,7 @@ def cr_load(vessel, g, n):
     good = stores.goods[g]
     if is_too_much(stores, good, n):
         return [NO_ROOM]
-    good_to = today(vessel.way) + good.life
+    good_to = good_to_if_loaded(good, today(vessel.way))
     if len(good.lots) == MOST_LOTS and not has_lot(good, good_to):
         return [TOO_MANY]
     add_units(good, good_to, n)

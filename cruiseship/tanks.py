@@ -73,7 +73,11 @@ def use(tanks, wanted):
     return wanted - used
 
 
+def wanted_an_hour(tanks, aboard):
+    return aboard * tanks.uses
+
+
 def water_hour(tanks, miles, knots, aboard):
     let_go(tanks, miles, knots)
     make(tanks, miles)
-    return use(tanks, aboard * tanks.uses)
+    return use(tanks, wanted_an_hour(tanks, aboard))

@@ -1,13 +1,13 @@
 """The one object that calls are made on: the ship, and what can be taken back or done again."""
 
 from cruiseship.bounds import outside
-from cruiseship.calls import CR_START, change, is_change, tell
+from cruiseship.calls import CR_AGAIN, CR_BACK, CR_START, CR_STATE, change, is_change, tell
 from cruiseship.people import People
-from cruiseship.refusals import NOT_AS_TOLD
+from cruiseship.refusals import NONE_THERE, NOT_AS_TOLD
 from cruiseship.stores import Stores
 from cruiseship.tanks import Tanks
 from cruiseship.vessel import Vessel
-from cruiseship.way import Way
+from cruiseship.way import Way, today
 
 MOST_TAKEN_BACK = 20
 MOST_LITRES = 10000000
@@ -55,10 +55,39 @@ def keep_past(voyage):
     voyage.undone = []
 
 
+def cr_back(voyage):
+    if len(voyage.past) == 0:
+        return [NONE_THERE]
+    voyage.undone.append(voyage.vessel)
+    voyage.vessel = voyage.past.pop()
+    return [len(voyage.past)]
+
+
+def cr_again(voyage):
+    if len(voyage.undone) == 0:
+        return [NONE_THERE]
+    voyage.past.append(voyage.vessel)
+    voyage.vessel = voyage.undone.pop()
+    return [len(voyage.undone)]
+
+
+def cr_state(voyage):
+    vessel = voyage.vessel
+    way = vessel.way
+    counts = [len(way.legs), len(vessel.stores.goods), len(vessel.people.parties)]
+    return [way.hour, today(way)] + counts + [len(voyage.past), len(voyage.undone)]
+
+
 def answer_call(voyage, call, numbers):
     if call == CR_START:
         return cr_start(voyage, numbers[0], numbers[1], numbers[2], numbers[3],
                         numbers[4], numbers[5], numbers[6], numbers[7])
     if is_change(call):
         return try_change(voyage, call, numbers)
-    return tell(voyage.vessel, call)
+    if call == CR_BACK:
+        return cr_back(voyage)
+    if call == CR_AGAIN:
+        return cr_again(voyage)
+    if call == CR_STATE:
+        return cr_state(voyage)
+    return tell(voyage.vessel, call, numbers)

@@ -67,6 +67,23 @@ def is_leaving(way):
     return not is_at_sea(way) and miles_at(way, way.hour + 1) > 0
 
 
+# The first hour in port from the given one on; behind the last leg there is always one.
+def port_hour_from(way, hour):
+    begin = 0
+    for leg in way.legs:
+        end = begin + leg.hours
+        if leg.miles == 0 and end > hour:
+            return max(begin, hour)
+        begin = end
+    return max(begin, hour)
+
+
+# A day behind the last one is none of the voyage's, in port or not.
+def next_port_day(way):
+    tomorrow = (today(way) + 1) * HOURS_A_DAY
+    return min(port_hour_from(way, tomorrow) // HOURS_A_DAY, way.last_day + 1)
+
+
 def stay_an_hour_more(way):
     number = leg_at(way, way.hour)
     leg = way.legs[number]

@@ -13,9 +13,15 @@ from cruiseship.way import Way
 NUMBERS = {
     "start": 0, "leg": 1, "good": 2, "cabin": 3, "board": 4, "leave": 5, "gate": 6, "scan": 7,
     "load": 8, "bunker": 9, "ashore": 10, "set": 11, "drill": 12, "in": 13, "hours": 14,
-    "where": 15, "ready": 16,
+    "where": 15, "ready": 16, "aboard": 17, "missing": 18, "search": 19, "who": 20, "party": 21,
+    "cabins": 22, "least": 23, "short": 24, "stock": 25, "water": 26, "lasts": 27, "ahead": 28,
+    "sums": 29, "back": 30, "again": 31, "state": 32,
 }
-OUTS = {"board": 3, "scan": 1, "load": 1, "ashore": 1, "hours": 3, "where": 4, "ready": 3}
+OUTS = {
+    "scan": 1, "load": 1, "ashore": 1, "missing": 1, "least": 1, "short": 1, "aboard": 2, "search": 2, "who": 2,
+    "party": 2, "board": 3, "hours": 3, "ready": 3, "cabins": 3, "stock": 3, "water": 3, "ahead": 3, "where": 4,
+    "sums": 5, "state": 6,
+}
 BIG = 4294967295
 
 NONE, NO_DRILL, LESS, BUSY, SO, WRONG, FULL, UNFIT, ROOM, LATE = (
@@ -34,10 +40,16 @@ def cabins(many, berths=6, rank=3, flat=1):
 AT_SEA = [start(), ("good", 2, 3), *cabins(2), ("board", 2, 1, 0, 0),
           ("leg", 1, 0, 0), ("leg", 5, 12, 10), ("hours", 1)]
 
+# Each call that tells how the ship is, or would be.
+TOLD = [
+    ("where",), ("ready",), ("aboard",), ("missing",), ("search",), *[("who", card) for card in range(17)],
+    *[("party", party) for party in range(9)], ("cabins",), *[("least", g) for g in range(7)], ("short",),
+    *[("stock", g) for g in range(7)], ("water",), ("lasts",), ("ahead", 1), ("ahead", 40), ("sums",),
+]
+
 # Calls that bring to light, one behind another, nearly all that a ship can hold.
 PROBE = [
-    ("where",), ("ready",),
-    *[("in", p) for p in range(16)], ("drill",), *[("in", p) for p in range(16)],
+    *TOLD, *[("in", p) for p in range(16)], ("drill",), *[("in", p) for p in range(16)],
     *[("load", g, 1) for g in range(6)], ("ashore", 1, 0), ("ashore", 0, 1), ("bunker", 1),
     ("set", 1, 1, 0), ("set", 0, 0, 1), ("hours", 1), ("where",), ("ready",), ("hours", 7),
     ("gate", 1), *[("scan", card) for card in range(16)], ("ready",), ("hours", 1),
@@ -46,7 +58,13 @@ PROBE = [
     ("cabin", 7, 0, 0, 2, 0), ("good", 1, 1), ("leg", 2, 0, 0), ("where",), ("hours", 16),
     *[("load", g, 1) for g in range(6)], ("hours", 24), *[("load", g, 1) for g in range(6)],
     ("bunker", 1), ("ashore", 1, 1), ("ready",), ("where",), ("leg", 2, 0, 0), ("good", 1, 1),
-    ("hours", 240), ("hours", 240), ("hours", 240), ("ready",), ("where",),
+    ("hours", 240), ("hours", 240), ("hours", 240), *TOLD,
+]
+
+# Calls that bring to light all that can be taken back or done again.
+HISTORY = [
+    ("state",), *[("again",), ("state",)] * 3, *[("back",), ("state",), ("sums",), ("water",)] * 21,
+    ("aboard",), ("cabins",), *[("again",), ("sums",), ("cabins",)] * 21, ("state",),
 ]
 
 
@@ -115,9 +133,13 @@ class LineCase(unittest.TestCase):
 
     def refused(self, code, before, call):
         self.led_up(before)
-        parts = self.played([*before, call, *PROBE])
-        self.assertEqual(parts[len(before)], [code], call)
-        self.assertEqual(parts[len(before) + 1:], play([*before, *PROBE])[len(before):], call)
+        self.assertEqual(self.last([*before, call]), [code], call)
+        self.changes_nothing(before, call)
+
+    def changes_nothing(self, before, call):
+        probe = [*HISTORY, *PROBE]
+        self.assertEqual(self.played([*before, call, *probe])[len(before) + 1:],
+                         self.played([*before, *probe])[len(before):], call)
 
     def answered(self, answer, before, call):
         self.led_up(before)

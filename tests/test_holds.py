@@ -26,6 +26,8 @@ def random_call(dice):
         "ashore": (dice.randint(0, 500), dice.randint(0, 50)),
         "set": (dice.randint(0, 1), dice.randint(0, 1), dice.randint(0, 1)),
         "in": (dice.randint(0, 16),), "hours": (dice.choice([1, 1, 1, 2, 5, 24]),),
+        "who": (dice.randint(0, 16),), "party": (dice.randint(0, 8),), "least": (dice.randint(0, 6),),
+        "stock": (dice.randint(0, 6),), "ahead": (dice.choice([1, 24, 240]),),
     }
     return (name, *numbers.get(name, ()))
 
@@ -45,12 +47,20 @@ class Holds(unittest.TestCase):
                 where = answer_call(voyage, NUMBERS["where"], [])
                 ready = answer_call(voyage, NUMBERS["ready"], [])
                 answer = answer_call(voyage, NUMBERS[call[0]], list(call[1:]))
-                if answer[0] < 0:
+                if answer[0] < 0 or 15 <= NUMBERS[call[0]] <= 29 or call == ("state",):
                     self.assertEqual(shown(voyage.vessel), before)
                 elif call == ("hours", 1):
                     self.look_at_leaving(where, ready, answer)
                     self.look_at_what_was_wanted(before, shown(voyage.vessel), answer)
                 self.look_at(voyage.vessel, first)
+                self.look_at_the_search(voyage)
+
+    def look_at_the_search(self, voyage):
+        people = voyage.vessel.people
+        meant = [person for person, minute in enumerate(people.minutes)
+                 if people.standing[person] == ABOARD and minute < 0]
+        told = [len(meant), sum(2 ** person for person in meant), people.drill]
+        self.assertEqual(answer_call(voyage, NUMBERS["search"], []), told if people.drill else [-6])
 
     def look_at_leaving(self, where, ready, answer):
         later = 1 if where[3] == 1 and ready[0] == 0 else 0

@@ -1,6 +1,6 @@
 import random
 
-from tests.line import AT_SEA, BIG, LATE, PROBE, WRONG, LineCase, cabins, play, start, voyage_behind
+from tests.line import AT_SEA, BIG, LATE, PROBE, WRONG, LineCase, cabins, play, start
 
 WAY = [("leg", 2, 0, 0), ("leg", 3, 12, 10), ("leg", 2, 0, 0)]
 ONE = [*cabins(2), ("board", 1, 0, 0, 0)]
@@ -98,7 +98,7 @@ class Leaving(LineCase):
         self.answered([8, 0, 0, 0], [*second, ("gate", 0)], ("hours", 1))
 
     def test_a_leg_may_grow_past_what_may_be_told(self):
-        before = [start(uses=0), *ONE, ("leg", 500, 0, 0), ("leg", 2, 5, 5), ("gate", 1), ("hours", 240), ("hours", 240)]
+        before = [start(uses=0), *ONE, ("leg", 500, 0, 0), ("leg", 2, 5, 5), ("gate", 1), *[("hours", 240)] * 2]
         self.answered([580, 81, 0, 1], before, ("hours", 100))
         self.answered([0, 0, 1, 1, 583], [*before, ("hours", 100)], ("where",))
 
@@ -108,22 +108,9 @@ class Leaving(LineCase):
         self.assertEqual(parts[4:], [[1, 0, 0, 0], [2, 0, 0, 0], [7, 5, 0, 0, 3], [3, 0, 0, 1], [0, 0, 1, 0, 3]])
 
 
-# The tanks behind some hours: fresh, grey, black, found out in port.
-def tanks(calls, fresh_most):
-    fresh = fresh_most
-    for room in range(fresh_most + 1):
-        if play([*calls, ("bunker", room + 1)])[-1] == [-62]:
-            fresh = fresh_most - room
-            break
-    grey = most_given(calls, lambda n: ("ashore", n, 0))
-    return fresh, grey, most_given(calls, lambda n: ("ashore", 0, n))
-
-
-def most_given(calls, call):
-    n = 0
-    while play([*calls, call(n + 1)])[-1] != [-12]:
-        n += 1
-    return n
+# The tanks behind some hours: fresh, grey, black.
+def tanks(calls):
+    return tuple(play([*calls, ("water",)])[-1][:3])
 
 
 class Water(LineCase):
@@ -134,22 +121,22 @@ class Water(LineCase):
     def test_what_is_used(self):
         before = self.ship(3)
         self.answered([1, 0, 0, 1], before, ("hours", 1))
-        self.assertEqual(tanks([*before, ("hours", 1)], 100), (70, 27, 3))
-        self.assertEqual(tanks([*before, ("hours", 2)], 100), (40, 54, 6))
+        self.assertEqual(tanks([*before, ("hours", 1)]), (70, 27, 3))
+        self.assertEqual(tanks([*before, ("hours", 2)]), (40, 54, 6))
 
     def test_nobody_uses_nothing(self):
-        self.assertEqual(tanks([start(fresh=9), ("hours", 30)], 9), (9, 0, 0))
-        self.assertEqual(tanks([*self.ship(6, uses=0), ("hours", 30)], 100), (100, 0, 0))
+        self.assertEqual(tanks([start(fresh=9), ("hours", 30)]), (9, 0, 0))
+        self.assertEqual(tanks([*self.ship(6, uses=0), ("hours", 30)]), (100, 0, 0))
 
     def test_only_those_aboard_use(self):
         before = [*self.ship(3), ("gate", 1), ("scan", 1), ("hours", 1)]
-        self.assertEqual(tanks(before, 100), (80, 18, 2))
-        self.assertEqual(tanks([*before, ("scan", 1), ("hours", 1)], 100), (50, 45, 5))
+        self.assertEqual(tanks(before), (80, 18, 2))
+        self.assertEqual(tanks([*before, ("scan", 1), ("hours", 1)]), (50, 45, 5))
 
     def test_nine_tenths_are_rounded_down(self):
         for uses, grey, black in [(1, 0, 1), (2, 1, 1), (9, 8, 1), (10, 9, 1), (11, 9, 2), (19, 17, 2), (80, 72, 8)]:
-            self.assertEqual(tanks([*self.ship(1, uses=uses), ("hours", 1)], 100), (100 - uses, grey, black))
-        self.assertEqual(tanks([*self.ship(1, uses=1), ("hours", 5)], 100), (95, 0, 5))
+            self.assertEqual(tanks([*self.ship(1, uses=uses), ("hours", 1)]), (100 - uses, grey, black))
+        self.assertEqual(tanks([*self.ship(1, uses=1), ("hours", 5)]), (95, 0, 5))
 
     def test_no_more_than_there_is(self):
         before = self.ship(3, fresh=80)
@@ -157,19 +144,19 @@ class Water(LineCase):
         self.answered([3, 0, 10, 1], before, ("hours", 3))
         self.answered([5, 0, 70, 1], before, ("hours", 5))
         self.answered([5, 0, 60, 1], [*before, ("hours", 3)], ("hours", 2))
-        self.assertEqual(tanks([*before, ("hours", 3)], 80), (0, 27 + 27 + 18, 3 + 3 + 2))
+        self.assertEqual(tanks([*before, ("hours", 3)]), (0, 27 + 27 + 18, 3 + 3 + 2))
 
     def test_no_more_than_grey_holds(self):
         before = self.ship(3, grey=9)
         self.answered([1, 0, 19, 1], before, ("hours", 1))
-        self.assertEqual(tanks([*before, ("hours", 1)], 100), (89, 9, 2))
+        self.assertEqual(tanks([*before, ("hours", 1)]), (89, 9, 2))
         self.answered([2, 0, 29, 1], [*before, ("hours", 1)], ("hours", 1))
-        self.assertEqual(tanks([*before, ("hours", 2)], 100), (88, 9, 3))
+        self.assertEqual(tanks([*before, ("hours", 2)]), (88, 9, 3))
 
     def test_no_more_than_black_holds(self):
         before = self.ship(3, black=2)
         self.answered([1, 0, 10, 1], before, ("hours", 1))
-        self.assertEqual(tanks([*before, ("hours", 1)], 100), (80, 18, 2))
+        self.assertEqual(tanks([*before, ("hours", 1)]), (80, 18, 2))
         self.answered([3, 0, 60, 1], [*before, ("hours", 1)], ("hours", 2))
 
     def test_the_most_that_both_tanks_hold(self):
@@ -187,15 +174,15 @@ class Water(LineCase):
                 ("hours", 1 + hours)]
 
     def test_making(self):
-        self.assertEqual(tanks(self.out(12, 0, (1, 0, 0), 1), 100), (65, 54, 6))
-        self.assertEqual(tanks(self.out(1000, 40, (1, 0, 0), 1), 100), (65, 54, 6))
-        self.assertEqual(tanks(self.out(11, 40, (1, 0, 0), 1), 100), (40, 54, 6))
-        self.assertEqual(tanks(self.out(12, 40, (0, 0, 0), 1), 100), (40, 54, 6))
+        self.assertEqual(tanks(self.out(12, 0, (1, 0, 0), 1)), (65, 54, 6))
+        self.assertEqual(tanks(self.out(1000, 40, (1, 0, 0), 1)), (65, 54, 6))
+        self.assertEqual(tanks(self.out(11, 40, (1, 0, 0), 1)), (40, 54, 6))
+        self.assertEqual(tanks(self.out(12, 40, (0, 0, 0), 1)), (40, 54, 6))
 
     def test_as_much_is_made_as_there_is_room_for(self):
-        self.assertEqual(tanks(self.out(12, 0, (1, 0, 0), 1, makes=30), 100), (70, 54, 6))
-        self.assertEqual(tanks(self.out(12, 0, (1, 0, 0), 1, makes=31), 100), (70, 54, 6))
-        self.assertEqual(tanks(self.out(12, 0, (1, 0, 0), 1, makes=29), 100), (69, 54, 6))
+        self.assertEqual(tanks(self.out(12, 0, (1, 0, 0), 1, makes=30)), (70, 54, 6))
+        self.assertEqual(tanks(self.out(12, 0, (1, 0, 0), 1, makes=31)), (70, 54, 6))
+        self.assertEqual(tanks(self.out(12, 0, (1, 0, 0), 1, makes=29)), (69, 54, 6))
 
     def test_it_is_made_before_it_is_used(self):
         before = [*self.ship(3, fresh=30, makes=20), ("set", 1, 0, 0), ("leg", 1, 0, 0), ("leg", 2, 12, 0)]
@@ -204,23 +191,23 @@ class Water(LineCase):
         self.answered([4, 0, 50, 1], before, ("hours", 4))
 
     def test_making_is_not_for_port(self):
-        self.assertEqual(tanks([*self.ship(3), ("set", 1, 1, 1), ("hours", 2)], 100), (40, 54, 6))
+        self.assertEqual(tanks([*self.ship(3), ("set", 1, 1, 1), ("hours", 2)]), (40, 54, 6))
         port = [*self.ship(3), ("leg", 2, 0, 40), ("set", 1, 1, 1), ("hours", 2)]
-        self.assertEqual(tanks(port, 100), (40, 54, 6))
+        self.assertEqual(tanks(port), (40, 54, 6))
 
     def test_letting_grey_go(self):
-        self.assertEqual(tanks(self.out(4, 6, (0, 1, 0), 1), 100), (40, 27, 6))
-        self.assertEqual(tanks(self.out(1000, 40, (0, 1, 0), 1), 100), (40, 27, 6))
-        self.assertEqual(tanks(self.out(3, 6, (0, 1, 0), 1), 100), (40, 54, 6))
-        self.assertEqual(tanks(self.out(4, 5, (0, 1, 0), 1), 100), (40, 54, 6))
-        self.assertEqual(tanks(self.out(4, 6, (1, 0, 1), 1), 100), (40, 54, 6))
+        self.assertEqual(tanks(self.out(4, 6, (0, 1, 0), 1)), (40, 27, 6))
+        self.assertEqual(tanks(self.out(1000, 40, (0, 1, 0), 1)), (40, 27, 6))
+        self.assertEqual(tanks(self.out(3, 6, (0, 1, 0), 1)), (40, 54, 6))
+        self.assertEqual(tanks(self.out(4, 5, (0, 1, 0), 1)), (40, 54, 6))
+        self.assertEqual(tanks(self.out(4, 6, (1, 0, 1), 1)), (40, 54, 6))
 
     def test_letting_black_go(self):
-        self.assertEqual(tanks(self.out(12, 4, (0, 0, 1), 1), 100), (40, 54, 3))
-        self.assertEqual(tanks(self.out(1000, 40, (0, 0, 1), 1), 100), (40, 54, 3))
-        self.assertEqual(tanks(self.out(11, 4, (0, 0, 1), 1), 100), (40, 54, 6))
-        self.assertEqual(tanks(self.out(12, 3, (0, 0, 1), 1), 100), (40, 54, 6))
-        self.assertEqual(tanks(self.out(12, 4, (0, 1, 0), 1), 100), (40, 54, 6))
+        self.assertEqual(tanks(self.out(12, 4, (0, 0, 1), 1)), (40, 54, 3))
+        self.assertEqual(tanks(self.out(1000, 40, (0, 0, 1), 1)), (40, 54, 3))
+        self.assertEqual(tanks(self.out(11, 4, (0, 0, 1), 1)), (40, 54, 6))
+        self.assertEqual(tanks(self.out(12, 3, (0, 0, 1), 1)), (40, 54, 6))
+        self.assertEqual(tanks(self.out(12, 4, (0, 1, 0), 1)), (40, 54, 6))
 
     def test_it_goes_before_more_comes(self):
         before = [*self.ship(3, grey=27, black=3), ("set", 0, 1, 1), ("leg", 1, 0, 0), ("leg", 2, 12, 6)]
@@ -231,10 +218,10 @@ class Water(LineCase):
     def test_by_the_leg_of_this_hour(self):
         way = [("leg", 1, 0, 0), ("leg", 1, 12, 6)]
         before = [*self.ship(1, uses=20), ("set", 1, 1, 1), *way]
-        self.assertEqual(tanks([*before, ("hours", 2)], 100), (80, 18, 2))
+        self.assertEqual(tanks([*before, ("hours", 2)]), (80, 18, 2))
         late = [*before, ("gate", 1), ("hours", 2), ("gate", 0)]
-        self.assertEqual(tanks(late, 100), (60, 36, 4))
-        self.assertEqual(tanks([*late, ("hours", 2)], 100), (45, 18, 2))
+        self.assertEqual(tanks(late), (60, 36, 4))
+        self.assertEqual(tanks([*late, ("hours", 2)]), (45, 18, 2))
 
 
 class Days(LineCase):
@@ -242,9 +229,8 @@ class Days(LineCase):
         return [start(uses=0, room=10000), *[("good", *good) for good in goods], *cabins(2),
                 ("board", persons, 0, 0, 0)]
 
-    # How much there is of a good, found out by loading one unit more.
     def there_is(self, calls, g=0):
-        return self.last([*calls, ("load", g, 1)])[0] - 1
+        return self.last([*calls, ("stock", g)])[0]
 
     def test_it_is_eaten_at_the_end_of_a_day(self):
         before = [*self.ship(3, (5, 9)), ("load", 0, 100)]
@@ -286,12 +272,10 @@ class Days(LineCase):
         self.assertEqual(self.there_is([*three, ("hours", 48)]), 8)
         self.assertEqual(self.there_is([*three, ("hours", 72)]), 0)
 
-    # No call tells these as yet.
     def test_what_was_eaten_has_spoilt_and_has_lacked(self):
         calls = [*self.ship(2, (5, 1), (3, 9)), ("load", 0, 27), ("load", 1, 8), ("hours", 72)]
-        goods = voyage_behind(calls).vessel.stores.goods
-        self.assertEqual([(good.loaded, good.eaten, good.spoilt, good.lacked) for good in goods],
-                         [(27, 20, 7, 10), (8, 8, 0, 10)])
+        self.answered([0, 20, 7, 10], calls, ("stock", 0))
+        self.answered([0, 8, 0, 10], calls, ("stock", 1))
 
     def test_one_lot_a_day(self):
         before = [*self.ship(1, (1, 1)), ("load", 0, 5), ("hours", 5), ("load", 0, 5), ("hours", 19)]

@@ -71,6 +71,11 @@ class Load(LineCase):
         self.refused(FULL, seventh_day, ("load", 0, 1))
         self.answered([1, 106], seventh_day, ("load", 1, 1))
 
+    def test_what_is_loaded_on_one_day_is_one_lot(self):
+        one_day = [start(), ("good", 1, 100), *[("load", 0, 2)] * 7]
+        parts = self.played([*one_day, *[("hours", 24), ("load", 0, 1)] * 6])
+        self.assertEqual(parts[-11::2], [[15, 101], [16, 102], [17, 103], [18, 104], [19, 105], [FULL]])
+
     def test_a_lot_that_is_eaten_up_is_none(self):
         before = [*self.six_lots(), *cabins(1), ("board", 1, 0, 0, 0), ("hours", 24)]
         self.answered([6, 106], before, ("load", 0, 1))
